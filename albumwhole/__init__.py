@@ -1,0 +1,1 @@
+"""An album, whole: two collectors, their pictures, and what it takes yet."""

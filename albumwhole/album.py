@@ -1,0 +1,45 @@
+"""The way in: calls on one new album, handed in and answered as lists of whole numbers."""
+
+from albumwhole.alike_calls import answer_alike_call
+from albumwhole.holding import answer_holding
+from albumwhole.refusals import NOT_BEGUN
+from albumwhole.state import Album
+from albumwhole.swapping import answer_swapping
+from albumwhole.waiting import answer_waiting
+
+BEGIN = 0
+# How many numbers stand behind a call's own number, for the calls 0, 1 and so on.
+ARGUMENT_COUNTS = (
+    0, 1, 2, 2, 2, 4, 1, 0, 2, 1, 0, 0, 0, 2, 2, 1, 1, 0, 2, 0, 1,
+    1, 1, 1, 0, 1, 0, 1, 1, 1, 0, 2, 1, 3,
+    2, 1, 1, 1, 1, 2, 1, 3, 2, 3, 1,
+    4, 10, 7, 6, 5, 5, 5, 5, 5, 4,
+    4, 3, 3, 3, 3, 4, 5, 4, 3, 4, 4, 3,
+)
+
+
+def answer_call(album, number, given):
+    if number == BEGIN:
+        album.begin()
+        return [0]
+    if not album.begun:
+        return [NOT_BEGUN]
+    for answer_group in (answer_holding, answer_swapping, answer_waiting, answer_alike_call):
+        answer = answer_group(album, number, given)
+        if answer is not None:
+            return answer
+    raise NotImplementedError(f"there is no call {number} yet")
+
+
+def answers(calls):
+    album = Album()
+    told = []
+    place = 0
+    while place < len(calls):
+        number = calls[place]
+        behind = place + 1 + ARGUMENT_COUNTS[number]
+        answer = answer_call(album, number, calls[place + 1:behind])
+        told.append(len(answer))
+        told.extend(answer)
+        place = behind
+    return told
