@@ -1,10 +1,13 @@
 """The way in: calls on one new album, handed in and answered as lists of whole numbers."""
 
 from albumwhole.alike_calls import answer_alike_call
+from albumwhole.box_calls import answer_box_call
 from albumwhole.holding import answer_holding
+from albumwhole.manykinds_calls import answer_manykinds_call
 from albumwhole.refusals import NOT_BEGUN
 from albumwhole.state import Album
 from albumwhole.swapping import answer_swapping
+from albumwhole.urn_calls import answer_urn_call
 from albumwhole.waiting import answer_waiting
 
 BEGIN = 0
@@ -24,11 +27,13 @@ def answer_call(album, number, given):
         return [0]
     if not album.begun:
         return [NOT_BEGUN]
-    for answer_group in (answer_holding, answer_swapping, answer_waiting, answer_alike_call):
+    own_calls = (answer_holding, answer_swapping, answer_waiting)
+    stage_calls = (answer_alike_call, answer_manykinds_call, answer_urn_call, answer_box_call)
+    for answer_group in own_calls + stage_calls:
         answer = answer_group(album, number, given)
         if answer is not None:
             return answer
-    raise NotImplementedError(f"there is no call {number} yet")
+    raise NotImplementedError(f"no file has the call {number}")
 
 
 def answers(calls):

@@ -1,6 +1,7 @@
 """How likely draws are alike: the sums behind the calls of the stage "Alike"."""
 
-from albumwhole.ratio import difference, fraction, power
+from albumwhole.arithmetic import choices, power
+from albumwhole.ratio import difference, fraction
 
 
 def set_products(weights):
@@ -28,6 +29,10 @@ def different_rows(weights, draws):
 
 def likely_different(weights, draws):
     return fraction(different_rows(weights, draws), power(sum(weights), draws))
+
+
+def likely_even_different(weights, draws):
+    return likely_different([1] * len(weights), draws)
 
 
 def likely_alike(weights, draws):
@@ -65,13 +70,6 @@ def mean_first(weights):
     return fraction(above, power(total, len(weights)))
 
 
-def choices(many, few):
-    number = 1
-    for step in range(few):
-        number = number * (many - step) // (step + 1)
-    return number
-
-
 def twice_at_most_rows(weights, draws):
     """How heavy all rows are, together, in which no kind stands more than twice."""
     rows = [1] + [0] * draws
@@ -88,12 +86,3 @@ def twice_at_most_rows(weights, draws):
 def likely_three(weights, draws):
     every_row = power(sum(weights), draws)
     return fraction(every_row - twice_at_most_rows(weights, draws), every_row)
-
-
-def levelled(weights, one, other):
-    """The weights, in a list of its own, with both made alike; they must be even together."""
-    level = (weights[one] + weights[other]) // 2
-    new_weights = list(weights)
-    new_weights[one] = level
-    new_weights[other] = level
-    return new_weights

@@ -1,53 +1,38 @@
 """The calls of the stage "Alike", asked of the album's kinds and their weights."""
 
-from albumwhole.alike import least_half, levelled, likely_alike, likely_different, likely_first, likely_three
-from albumwhole.alike import mean_first, mean_pairs, product_of_size, square_sum
+from albumwhole.alike import least_half, likely_alike, likely_different, likely_even_different, likely_first
+from albumwhole.alike import likely_three, mean_first, mean_pairs, product_of_size, square_sum
 from albumwhole.ratio import fraction, told_fraction
-from albumwhole.refusals import FULL, MOST_KINDS, NO_KINDS, NO_SUCH, ODD_WEIGHTS, OUT_OF_RANGE, is_weight
+from albumwhole.refusals import FULL, MOST_KINDS, NO_KINDS, OUT_OF_RANGE, is_weight
+from albumwhole.weighed import answer_behind_level, answer_of_draws, refused_draws, refused_kinds
 
 MOST_DRAWS = 10
 
 
-def refused_number(album, number):
-    """None where nothing is refused."""
-    if len(album.weights) == 0:
-        return [NO_KINDS]
-    if number > MOST_DRAWS:
-        return [OUT_OF_RANGE]
-    return None
-
-
-def answer_by_number(album, number, likely):
-    refused = refused_number(album, number)
-    if refused is not None:
-        return refused
-    return told_fraction(likely(album.weights, number))
-
-
 def answer_different(album, given):
-    return answer_by_number(album, given[0], likely_different)
+    return answer_of_draws(album, given[0], MOST_DRAWS, likely_different)
 
 
 def answer_alike(album, given):
-    return answer_by_number(album, given[0], likely_alike)
+    return answer_of_draws(album, given[0], MOST_DRAWS, likely_alike)
 
 
 def answer_pairs(album, given):
-    return answer_by_number(album, given[0], mean_pairs)
+    return answer_of_draws(album, given[0], MOST_DRAWS, mean_pairs)
 
 
 def answer_three(album, given):
-    return answer_by_number(album, given[0], likely_three)
+    return answer_of_draws(album, given[0], MOST_DRAWS, likely_three)
 
 
 def answer_evendifferent(album, given):
-    return answer_by_number(album, given[0], lambda weights, draws: likely_different([1] * len(weights), draws))
+    return answer_of_draws(album, given[0], MOST_DRAWS, likely_even_different)
 
 
 def answer_first(album, given):
     if len(album.weights) > 0 and given[0] == 0:
         return [OUT_OF_RANGE]
-    return answer_by_number(album, given[0], likely_first)
+    return answer_of_draws(album, given[0], MOST_DRAWS, likely_first)
 
 
 def answer_alikehalf(album, given):
@@ -63,7 +48,7 @@ def answer_meanfirst(album, given):
 
 
 def answer_products(album, given):
-    refused = refused_number(album, given[0])
+    refused = refused_draws(album, given[0], MOST_DRAWS)
     if refused is not None:
         return refused
     return [0, product_of_size(album.weights, given[0])]
@@ -86,28 +71,14 @@ def answer_with_more(album, given):
 
 
 def answer_chance(album, given):
-    kind = given[0]
-    if len(album.weights) == 0:
-        return [NO_KINDS]
-    if not album.has_kind(kind):
-        return [NO_SUCH]
-    return told_fraction(fraction(album.weights[kind], sum(album.weights)))
+    refused = refused_kinds(album, given)
+    if refused is not None:
+        return refused
+    return told_fraction(fraction(album.weights[given[0]], sum(album.weights)))
 
 
 def answer_would(album, given):
-    one = given[0]
-    other = given[1]
-    draws = given[2]
-    weights = album.weights
-    if len(weights) == 0:
-        return [NO_KINDS]
-    if not album.has_kind(one) or not album.has_kind(other):
-        return [NO_SUCH]
-    if draws > MOST_DRAWS or one == other:
-        return [OUT_OF_RANGE]
-    if (weights[one] + weights[other]) % 2 == 1:
-        return [ODD_WEIGHTS]
-    return told_fraction(likely_different(levelled(weights, one, other), draws))
+    return answer_behind_level(album, given, MOST_DRAWS, likely_different)
 
 
 ALIKE_CALLS = {

@@ -4,7 +4,8 @@ That some of a few kinds stay away is counted set by set, sets of odd size taken
 only what a set weighs matters, so sets of one weight are counted together.
 """
 
-from albumwhole.ratio import fraction, power
+from albumwhole.arithmetic import power
+from albumwhole.ratio import fraction
 
 
 def lacking_weights(weights, counts):

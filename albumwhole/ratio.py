@@ -25,10 +25,3 @@ def is_less(one, other):
 
 def told_fraction(pair):
     return [0, pair[0], pair[1]]
-
-
-def power(base, exponent):
-    product = 1
-    for step in range(exponent):
-        product = product * base
-    return product

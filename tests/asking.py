@@ -9,6 +9,12 @@ NUMBERS = {
     "different": 21, "alike": 22, "pairs": 23, "alikehalf": 24, "first": 25, "meanfirst": 26,
     "evendifferent": 27, "three": 28, "products": 29, "squares": 30, "with_more": 31,
     "chance": 32, "would": 33,
+    "justkinds": 34, "allnumbers": 35, "meankinds": 36, "adds": 37, "likeliest": 38, "seen": 39, "evenkinds": 40,
+    "both": 41, "needed": 42, "wouldkinds": 43, "mostkinds": 44,
+    "urnchance": 45, "urnrow": 46, "urncounts": 47, "urnjust": 48, "urnall": 49, "urntwo": 50, "urnmean": 51,
+    "urnthen": 52, "urnlikeliest": 53, "urnone": 54,
+    "boxjust": 55, "boxall": 56, "boxlikeliest": 57, "boxmean": 58, "boxspread": 59, "boxatleast": 60,
+    "boxneeded": 61, "boxkthat": 62, "boxkthmean": 63, "boxswapped": 64, "boxguess": 65, "boxcertain": 66,
 }
 
 # A call of each name, with arguments that are all in range.
@@ -19,6 +25,14 @@ SAMPLES = (
     ("told", 0), ("different", 0), ("alike", 0), ("pairs", 0), ("alikehalf",), ("first", 1),
     ("meanfirst",), ("evendifferent", 0), ("three", 0), ("products", 0), ("squares",),
     ("with_more", 1, 0), ("chance", 0), ("would", 0, 0, 0),
+    ("justkinds", 2, 1), ("allnumbers", 2), ("meankinds", 2), ("adds", 2), ("likeliest", 2), ("seen", 0, 2),
+    ("evenkinds", 2), ("both", 0, 1, 2), ("needed", 1, 1), ("wouldkinds", 0, 1, 2), ("mostkinds", 2),
+    ("urnchance", 1, 2, 3, 0), ("urnrow", 1, 2, 3, 2, 0, 1, 0, 0, 0, 0), ("urncounts", 1, 2, 3, 1, 1, 0, 0),
+    ("urnjust", 1, 2, 3, 0, 2, 1), ("urnall", 1, 2, 3, 0, 2), ("urntwo", 1, 2, 3, 0, 1), ("urnmean", 1, 2, 3, 0, 2),
+    ("urnthen", 1, 2, 3, 0, 2), ("urnlikeliest", 1, 2, 3, 0, 2), ("urnone", 1, 2, 3, 2),
+    ("boxjust", 5, 2, 3, 1), ("boxall", 5, 2, 3), ("boxlikeliest", 5, 2, 3), ("boxmean", 5, 2, 3),
+    ("boxspread", 5, 2, 3), ("boxatleast", 5, 2, 3, 1), ("boxneeded", 5, 2, 1, 1, 2), ("boxkthat", 5, 2, 1, 2),
+    ("boxkthmean", 5, 2, 1), ("boxswapped", 5, 2, 3, 1), ("boxguess", 5, 2, 3, 1), ("boxcertain", 5, 2, 1),
 )
 
 GREATEST = 4294967295

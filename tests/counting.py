@@ -86,6 +86,61 @@ def over_counts(weights, draws, value):
     return sum((likely * value(counts) for counts, likely in count_rows(weights, draws).items()), Fraction(0))
 
 
+def kinds_rows(weights, draws):
+    """For 0, 1 and so on up to all kinds how heavy the rows with just so many are, together: draw by draw."""
+    heavy = [0] * (len(weights) + 1)
+    for kinds, likely in had_sets(weights, (), draws).items():
+        heavy[len(kinds)] += likely * sum(weights) ** draws
+    return heavy
+
+
+def mean_kinds(weights, draws):
+    return fresh(weights, (), draws)
+
+
+def urn_rows(more, balls, draws):
+    """Each row of colours, with how heavy it is: an urn is drawn from, ball by ball."""
+    for row in product(range(len(balls)), repeat=draws):
+        urn = list(balls)
+        heavy = 1
+        for colour in row:
+            heavy *= urn[colour]
+            urn[colour] += more
+        yield row, heavy
+
+
+def over_urn(more, balls, draws, value):
+    found = list(urn_rows(more, balls, draws))
+    return Fraction(sum(heavy * value(row) for row, heavy in found), sum(heavy for row, heavy in found))
+
+
+def box_sets(things, red, drawn):
+    """Of each set of things drawn how many are red: the things below red are."""
+    return [sum(thing < red for thing in chosen) for chosen in combinations(range(things), drawn)]
+
+
+def box_likely(things, red, drawn):
+    """How likely each number of red ones is, thing by thing."""
+    now = {0: Fraction(1)}
+    for gone in range(drawn):
+        behind = {}
+        for reds, likely in now.items():
+            for more, left in ((1, red - reds), (0, things - gone - (red - reds))):
+                if left > 0:
+                    behind[reds + more] = behind.get(reds + more, 0) + likely * Fraction(left, things - gone)
+        now = behind
+    return now
+
+
+def box_kth_at(things, red, k, n):
+    """So many red ones before it, then a red one out of those that are left."""
+    return box_likely(things, red, n - 1).get(k - 1, 0) * Fraction(red - k + 1, things - n + 1)
+
+
+def first_greatest(numbers):
+    return max(range(len(numbers)), key=lambda place: (numbers[place], -place))
+
+
 def told(number):
     number = Fraction(number)
     return [0, number.numerator, number.denominator]

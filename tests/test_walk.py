@@ -3,162 +3,31 @@
 import random
 import unittest
 
-import counting
-from asking import GREATEST, laid, taken_apart
 from albumwhole.album import answers
+from asking import GREATEST, NUMBERS, laid, taken_apart
+from plain import Plain
 
-
-class Plain:
-    """The whole's own calls as the document tells them, each refusal in the order of its words."""
-
-    def __init__(self):
-        self.weights = None
-
-    def answer(self, name, *given):
-        if name != "begin" and self.weights is None:
-            return [-11]
-        return getattr(self, name)(*given)
-
-    def no_such(self, p=0, *kinds):
-        return p > 1 or any(kind >= len(self.weights) for kind in kinds)
-
-    def had(self, p):
-        return {kind for kind, count in enumerate(self.counts[p]) if count}
-
-    def begin(self):
-        self.weights, self.counts, self.packets = [], ([], []), 0
-        return [0]
-
-    def kind(self, w):
-        if w not in range(1, 21):
-            return [-22]
-        if len(self.weights) == 6:
-            return [-28]
-        self.weights.append(w)
-        self.counts[0].append(0)
-        self.counts[1].append(0)
-        return [len(self.weights) - 1]
-
-    def got(self, p, i):
-        if self.no_such(p, i):
-            return [-2]
-        if self.counts[p][i] == 100:
-            return [-28]
-        self.counts[p][i] += 1
-        return [self.counts[p][i]]
-
-    def give(self, p, i):
-        if self.no_such(p, i):
-            return [-2]
-        if self.counts[p][i] == 0:
-            return [-12]
-        if self.counts[1 - p][i] == 100:
-            return [-28]
-        self.counts[p][i] -= 1
-        self.counts[1 - p][i] += 1
-        return [self.counts[p][i]]
-
-    def packet(self, p, a, b, c):
-        if self.no_such(p, a, b, c):
-            return [-2]
-        if max(self.counts[p][kind] for kind in (a, b, c)) >= 98:
-            return [-28]
-        for kind in (a, b, c):
-            self.counts[p][kind] += 1
-        self.packets += 1
-        return [self.counts[p].count(0)]
-
-    def serving(self):
-        one, other = self.counts
-        numbers = range(len(self.weights))
-        return [(i, j) for i in numbers for j in numbers
-                if one[i] > 1 and other[i] == 0 and other[j] > 1 and one[j] == 0]
-
-    def swap(self, i, j):
-        if self.no_such(0, i, j):
-            return [-2]
-        if (i, j) not in self.serving():
-            return [-33]
-        self.give(0, i)
-        self.give(1, j)
-        return [len(self.serving())]
-
-    def swaps(self):
-        return [len(self.serving())] + [kind for swap in self.serving() for kind in swap]
-
-    def most(self):
-        kept = (list(self.counts[0]), list(self.counts[1]))
-        made = 0
-        while self.serving():
-            self.swap(*self.serving()[0])
-            made += 1
-        self.counts = kept
-        return [made]
-
-    def fairest(self):
-        if not self.serving():
-            return [-33]
-        return list(min(self.serving(), key=lambda swap: (max(counting.mean(self.weights, self.had(0) | {swap[1]}),
-                                                              counting.mean(self.weights, self.had(1) | {swap[0]})), swap)))
-
-    def sells(self, p, i):
-        if self.no_such(p, i):
-            return [-2]
-        return [int(self.counts[p][i] >= 2 and self.counts[1 - p][i] == 0)]
-
-    def mean(self, p):
-        return [-2] if self.no_such(p) else counting.told(counting.mean(self.weights, self.had(p)))
-
-    def meanboth(self):
-        return counting.told(counting.mean(self.weights, self.had(0) | self.had(1)))
-
-    def allby(self, p, n):
-        if self.no_such(p):
-            return [-2]
-        if n > 20:
-            return [-22]
-        return counting.told(counting.all_by(self.weights, self.had(p), n)) if self.weights else [-6]
-
-    def half(self, p):
-        if self.no_such(p):
-            return [-2]
-        return [counting.half(self.weights, self.had(p))] if self.weights else [-6]
-
-    def worth(self, p, i):
-        if self.no_such(p, i):
-            return [-2]
-        return counting.told(counting.mean(self.weights, self.had(p)) - counting.mean(self.weights, self.had(p) | {i}))
-
-    def ahead(self):
-        one, other = [counting.mean(self.weights, self.had(p)) for p in (0, 1)]
-        return [1 if one < other else 2 if other < one else 0]
-
-    def fresh(self, p, n):
-        if self.no_such(p):
-            return [-2]
-        if n > 12:
-            return [-22]
-        return counting.told(counting.fresh(self.weights, self.had(p), n)) if self.weights else [-6]
-
-    def lacking(self, p):
-        if self.no_such(p):
-            return [-2]
-        return [self.counts[p].count(0)] + [kind for kind, count in enumerate(self.counts[p]) if count == 0]
-
-    def doubles(self, p):
-        return [-2] if self.no_such(p) else [sum(self.counts[p]) - len(self.had(p))]
-
-    def bought(self):
-        return [self.packets]
-
-    def told(self, p):
-        return [-2] if self.no_such(p) else [len(self.weights)] + self.counts[p]
-
-
+# For each call the sorts of its arguments, as USUAL and ODD tell them.
 FORMS = {
     "begin": "", "kind": "w", "got": "pi", "give": "pi", "swap": "ii", "packet": "piii", "mean": "p", "meanboth": "",
     "allby": "pn", "half": "p", "swaps": "", "fairest": "", "most": "", "sells": "pi", "worth": "pi", "lacking": "p",
     "doubles": "p", "ahead": "", "fresh": "pn", "bought": "", "told": "p",
+    "different": "s", "alike": "s", "pairs": "s", "alikehalf": "", "first": "s", "meanfirst": "", "evendifferent": "s",
+    "three": "s", "products": "s", "squares": "", "with_more": "ws", "chance": "i", "would": "iis",
+    "justkinds": "sk", "allnumbers": "s", "meankinds": "s", "adds": "s", "likeliest": "s", "seen": "is", "evenkinds": "s",
+    "both": "iis", "needed": "ab", "wouldkinds": "iis", "mostkinds": "s",
+    "urnchance": "guuc", "urnrow": "guukcccccc", "urncounts": "guukkss", "urnjust": "guuckk", "urnall": "guuck",
+    "urntwo": "guucc", "urnmean": "guucf", "urnthen": "guucf", "urnlikeliest": "guuck", "urnone": "guuk",
+    "boxjust": "mrrk", "boxall": "mrr", "boxlikeliest": "mrr", "boxmean": "mrr", "boxspread": "mrr", "boxatleast": "mrrk",
+    "boxneeded": "mrkab", "boxkthat": "mrkr", "boxkthmean": "mrk", "boxswapped": "mrrk", "boxguess": "mrkk", "boxcertain": "mrk",
+}
+USUAL = {
+    "w": range(0, 22), "p": (0, 1), "i": range(6), "n": range(22), "s": range(14), "k": range(9), "a": range(12),
+    "b": range(0, 13), "g": range(6), "u": range(11), "c": (0, 1), "f": range(1001), "m": range(1, 25), "r": range(14),
+}
+ODD = {
+    "w": (21,), "p": (2,), "i": (6,), "n": (21,), "s": (11, 13), "k": (9,), "a": (100, 101, 1000), "b": (0, 100, 101, 1000, 1001),
+    "g": (6,), "u": (0, 0, 11), "c": (2,), "f": (1001,), "m": (0, 1, 24, 25), "r": (0, 24, 25),
 }
 OFTEN = ("kind",) * 3 + ("got",) * 12 + ("give",) * 3 + ("packet",) * 2 + ("swap",) * 8
 
@@ -166,28 +35,69 @@ OFTEN = ("kind",) * 3 + ("got",) * 12 + ("give",) * 3 + ("packet",) * 2 + ("swap
 def chosen(source, form):
     given = []
     for sort in form:
-        usual = {"w": range(0, 22), "p": (0, 1), "i": range(6), "n": range(22)}[sort]
-        odd = {"w": (21, GREATEST), "p": (2, GREATEST), "i": (6, GREATEST), "n": (21, GREATEST)}[sort]
-        given.append(source.choice(odd if source.random() < 0.02 else usual))
+        odd = ODD[sort] + (GREATEST,)
+        given.append(source.choice(odd if source.random() < 0.03 else USUAL[sort]))
     return given
 
 
+def call_of(source, name):
+    return (name, *chosen(source, FORMS[name]))
+
+
+def beginning(source, session):
+    calls = [("begin",)] if session % 10 else []
+    return calls + [("kind", source.choice((1, 1, 2, 5, 19, 20))) for kind in range(session % 7)]
+
+
 class Walk(unittest.TestCase):
-    def test_sessions(self):
+    def hold(self, session, calls):
+        self.assertEqual(len(calls), 120)
+        plain = Plain()
+        expected = [plain.answer(*call) for call in calls]
+        handed = laid(calls)
+        self.assertLessEqual(len(handed), 1500)
+        kept = list(handed)
+        told = answers(handed)
+        self.assertEqual(handed, kept)
+        found = taken_apart(told)
+        self.assertEqual(len(found), 120)
+        for place, call in enumerate(calls):
+            self.assertEqual(found[place], expected[place], (session, place, call, calls[:place]))
+        self.assertEqual(answers(handed), told)
+        self.assertEqual(handed, kept)
+
+    def test_forms_name_every_call(self):
+        self.assertEqual(list(FORMS), list(NUMBERS))
+
+    def test_sessions_of_two_collectors(self):
         source = random.Random(60)
-        names = [name for name in FORMS if name != "begin"]
+        names = [name for name in FORMS if 0 < NUMBERS[name] < 21]
         for session in range(150):
-            calls = [("begin",)] if session % 10 else []
-            calls += [("kind", source.choice((1, 1, 2, 5, 19, 20))) for kind in range(session % 7)]
+            calls = beginning(source, session)
             while len(calls) < 120:
                 name = "begin" if source.random() < 0.005 else source.choice(OFTEN if source.random() < 0.5 else names)
-                calls.append((name, *chosen(source, FORMS[name])))
-            plain = Plain()
-            expected = [plain.answer(*call) for call in calls]
-            found = taken_apart(answers(laid(calls)))
-            self.assertEqual(len(found), 120)
-            for place, call in enumerate(calls):
-                self.assertEqual(found[place], expected[place], (session, place, call, calls[:place]))
+                calls.append(call_of(source, name))
+            self.hold(session, calls)
+
+    def test_sessions_of_all_calls(self):
+        source = random.Random(67)
+        others = [name for name in FORMS if name != "begin"]
+        for session in range(100):
+            ahead = beginning(source, session)
+            # In every other session what is asked behind the begin that comes again is asked of kinds, too.
+            again = [("begin",)] + [("kind", weight) for weight in (3, 1, 20)[:3 * (session % 2)]]
+            names = others + source.choices(others, k=120 - len(others) - len(ahead) - len(again))
+            source.shuffle(names)
+            calls = [call_of(source, name) for name in names]
+            place = source.randrange(len(calls))
+            self.hold(session, ahead + calls[:place] + again + calls[place:])
+
+    def test_sessions_of_calls_in_a_row(self):
+        source = random.Random(66)
+        for session in range(10):
+            calls = [call_of(source, name) for name in FORMS] + [call_of(source, name) for name in list(FORMS)[:53]]
+            self.hold(session, calls)
+            self.hold(session, list(reversed(calls)))
 
 
 if __name__ == "__main__":
