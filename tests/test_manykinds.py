@@ -179,11 +179,10 @@ class Needed(unittest.TestCase):
             self.assertGreater(found[2][0], 0)
 
     def test_the_longest_there_is(self):
-        # Of averages that are come to none takes longer: nearer to six kinds than 95 by 16 none can be told.
-        weights = (1, 20, 20, 20, 20, 20)
-        found = last(*kinds(*weights), ("needed", 95, 16))[0]
-        self.assertTrue(200 < found < 399)
-        self.assertTrue(self.missing(weights, found) <= Fraction(1, 16) < self.missing(weights, found - 1))
+        # Nothing nearer to six kinds than 95 by 16 can be told, and no other weights take longer to come so near.
+        weights = (1, 1, 20, 20, 20, 20)
+        self.assertEqual(last(*kinds(*weights), ("needed", 95, 16)), [283])
+        self.assertTrue(self.missing(weights, 283) <= Fraction(1, 16) < self.missing(weights, 282))
 
     def missing(self, weights, draws):
         return sum(Fraction(sum(weights) - weight, sum(weights)) ** draws for weight in weights)
